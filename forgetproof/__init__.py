@@ -1,0 +1,1 @@
+"""Explanations and deletion for recommendations."""
