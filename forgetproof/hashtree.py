@@ -1,4 +1,4 @@
-"""The hash of a list of whole numbers, and the hash tree over the members of a store."""
+"""The hash of a list of whole numbers, the hash tree over the members of a store, and its proofs."""
 
 START = 14695981039346656037
 FACTOR = 1099511628211
@@ -20,11 +20,19 @@ def halves(value):
     return [value >> 32, value & LOWER_32_BITS]
 
 
+def whole_of(high, low):
+    return (high << 32) | low
+
+
 def leaf_of(member, member_events):
     numbers = [1, member, len(member_events)]
     for item, weight in member_events:
         numbers.extend([item, weight])
     return hash_of(numbers)
+
+
+def index_of(members, member):
+    return len([other for other in members if other < member])
 
 
 def leaves_of(members):
@@ -47,3 +55,33 @@ def root_of(members):
     while len(level) > 1:
         level = next_level(level)
     return level[0]
+
+
+def root_without_one(members, left_out):
+    others = {}
+    for member in members:
+        if member != left_out:
+            others[member] = members[member]
+    return root_of(others)
+
+
+def proof_of(members, member):
+    """The steps from the leaf of a member to the root, each a (side, partner)."""
+    steps = []
+    level = leaves_of(members)
+    at = index_of(members, member)
+    while len(level) > 1:
+        if at % 2 == 1:
+            steps.append((0, level[at - 1]))
+        elif at + 1 < len(level):
+            steps.append((1, level[at + 1]))
+        level = next_level(level)
+        at = at // 2
+    return steps
+
+
+def led_to(leaf_value, steps):
+    value = leaf_value
+    for side, partner in steps:
+        value = hash_of([2, partner, value]) if side == 0 else hash_of([2, value, partner])
+    return value

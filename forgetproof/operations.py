@@ -3,10 +3,14 @@
 All checks of a call come before its first change, so a refused call leaves the store as it was.
 """
 
-from forgetproof.hashtree import halves, root_of
-from forgetproof.rankings import contributions_to, events_without, first_plus_one, ranking
-from forgetproof.rankings import scores_by, smallest_removal, smallest_sufficient
-from forgetproof.refusals import MemberThere, NoRecommendation, NoRoom, NotThere, OutsideLimits
+from forgetproof.hashtree import halves, index_of, leaf_of, led_to, proof_of, root_of
+from forgetproof.hashtree import root_without_one, whole_of
+from forgetproof.rankings import contributions_to, events_at, events_without, first_of
+from forgetproof.rankings import first_plus_one, leads_with, moved_count, ranking, scores_by
+from forgetproof.rankings import smallest_removal, smallest_sufficient
+from forgetproof.refusals import MemberThere, NoRecommendation, NoRoom, NoSuchWeight, NotThere
+from forgetproof.refusals import OutsideLimits
+from forgetproof.shapley_values import event_values
 from forgetproof.store import Store
 
 MOST_ITEMS = 6
@@ -15,6 +19,9 @@ MOST_EVENTS = 7
 GREATEST_MEMBER = 1000000
 GREATEST_SIMILARITY = 100
 GREATEST_WEIGHT = 10
+GREATEST_NEEDED_WEIGHT = 100
+# The numbers of one step of a proof: its side, and the two halves of the partner's value.
+STEP_LENGTH = 3
 
 
 def new_store(item_count):
@@ -40,6 +47,32 @@ def recommended_events(store, member):
     if first_plus_one(store, all_events, all_events) == 0:
         raise NoRecommendation()
     return all_events
+
+
+def events_with(store, member, position):
+    """The events of a member that has one at this position."""
+    all_events = store.events_of(member)
+    if position >= len(all_events):
+        raise NotThere()
+    return all_events
+
+
+def check_positions(positions, position_count):
+    for at, position in enumerate(positions):
+        if position >= position_count or (at > 0 and position <= positions[at - 1]):
+            raise OutsideLimits()
+
+
+def steps_of(numbers):
+    """The (side, partner) steps that are handed in number by number."""
+    if len(numbers) % STEP_LENGTH != 0:
+        raise OutsideLimits()
+    steps = []
+    for at in range(0, len(numbers), STEP_LENGTH):
+        if numbers[at] > 1:
+            raise OutsideLimits()
+        steps.append((numbers[at], whole_of(numbers[at + 1], numbers[at + 2])))
+    return steps
 
 
 def set_similarity(store, first, second, value):
@@ -82,9 +115,7 @@ def add_event(store, member, item, weight):
 
 
 def remove_event(store, member, position):
-    all_events = store.events_of(member)
-    if position >= len(all_events):
-        raise NotThere()
+    all_events = events_with(store, member, position)
     all_events.pop(position)
     return [len(all_events)]
 
@@ -126,6 +157,82 @@ def sufficient_set(store, member):
     return counted(smallest_sufficient(store, recommended_events(store, member)))
 
 
+def robust(store, member, count):
+    all_events = recommended_events(store, member)
+    return [1 if len(smallest_removal(store, all_events)) > count else 0]
+
+
+def shapley(store, member, item):
+    all_events = store.events_of(member)
+    store.check_item(item)
+    return counted_pairs(event_values(store, all_events, item))
+
+
+def influence(store, member, position):
+    all_events = events_with(store, member, position)
+    old_ranked = ranking(store, all_events, all_events)
+    new_ranked = ranking(store, all_events, events_without(all_events, [position]))
+    return [first_of(old_ranked), first_of(new_ranked), moved_count(old_ranked, new_ranked)]
+
+
+def needed_weight(store, member, on, goal):
+    all_events = store.events_of(member)
+    store.check_item(on)
+    store.check_item(goal)
+    for weight in range(1, GREATEST_NEEDED_WEIGHT + 1):
+        if leads_with(store, all_events, (on, weight), goal):
+            return [weight]
+    raise NoSuchWeight()
+
+
+def what_if(store, member, positions):
+    all_events = store.events_of(member)
+    check_positions(positions, len(all_events))
+    return counted_pairs(ranking(store, all_events, events_at(all_events, positions)))
+
+
+def root(store):
+    return [len(store.members)] + halves(root_of(store.members))
+
+
+def leaf(store, member):
+    all_events = store.events_of(member)
+    return [index_of(store.members, member)] + halves(leaf_of(member, all_events))
+
+
+def proof(store, member):
+    store.check_member(member)
+    steps = proof_of(store.members, member)
+    answer = [len(steps)]
+    for side, partner in steps:
+        answer.extend([side] + halves(partner))
+    return answer
+
+
+def check_proof(store, leaf_high, leaf_low, root_high, root_low, step_numbers):
+    """Needs the store only to be there."""
+    value = led_to(whole_of(leaf_high, leaf_low), steps_of(step_numbers))
+    return [1 if value == whole_of(root_high, root_low) else 0]
+
+
+def absence(store, member):
+    if member in store.members:
+        raise MemberThere()
+    below = [other + 1 for other in store.members if other < member]
+    above = [other + 1 for other in store.members if other > member]
+    return [0, max(below, default=0), min(above, default=0)]
+
+
+def root_without(store, member):
+    store.check_member(member)
+    return [len(store.members) - 1] + halves(root_without_one(store.members, member))
+
+
+def status(store):
+    event_count = sum([len(store.members[member]) for member in store.members])
+    return [store.item_count, len(store.members), event_count]
+
+
 OPERATIONS = {
     1: set_similarity,
     2: add_member,
@@ -139,14 +246,30 @@ OPERATIONS = {
     10: margin,
     11: removal_set,
     12: sufficient_set,
+    13: robust,
+    14: shapley,
+    15: influence,
+    16: needed_weight,
+    17: what_if,
+    18: root,
+    19: leaf,
+    20: proof,
+    21: check_proof,
+    22: absence,
+    23: root_without,
+    24: status,
 }
 
 
 def carry_out(store, number, given):
     """The answer of the call with this number, but for create, which needs no store."""
     operation = OPERATIONS[number]
+    if len(given) == 0:
+        return operation(store)
     if len(given) == 1:
         return operation(store, given[0])
     if len(given) == 2:
         return operation(store, given[0], given[1])
-    return operation(store, given[0], given[1], given[2])
+    if len(given) == 3:
+        return operation(store, given[0], given[1], given[2])
+    return operation(store, given[0], given[1], given[2], given[3], given[4])

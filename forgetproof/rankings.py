@@ -23,10 +23,14 @@ def ranking(store, all_events, given_events):
     return sorted(pairs, key=lambda pair: (-pair[1], pair[0]))
 
 
-def first_plus_one(store, all_events, given_events):
-    """The first recommendation plus 1, or 0 if there is none."""
-    ranked = ranking(store, all_events, given_events)
+def first_of(ranked):
+    """The first item of a ranking plus 1, or 0 if there is none."""
     return ranked[0][0] + 1 if len(ranked) > 0 else 0
+
+
+def first_plus_one(store, all_events, given_events):
+    """The first recommendation by the given events plus 1, or 0 if there is none."""
+    return first_of(ranking(store, all_events, given_events))
 
 
 def larger_sets(chosen_sets, position_count):
@@ -71,3 +75,18 @@ def smallest_sufficient(store, all_events):
     for positions in sets_of_positions(len(all_events)):
         if first_plus_one(store, all_events, events_at(all_events, positions)) == first:
             return positions
+
+
+def moved_count(old_ranked, new_ranked):
+    """How many items of the old ranking aren't at the same place in the new one."""
+    moved = 0
+    for place, pair in enumerate(old_ranked):
+        if place >= len(new_ranked) or new_ranked[place][0] != pair[0]:
+            moved = moved + 1
+    return moved
+
+
+def leads_with(store, all_events, event, goal):
+    """Whether the goal is the first recommendation when the member has this event, too."""
+    more_events = all_events + [event]
+    return first_plus_one(store, more_events, more_events) == goal + 1

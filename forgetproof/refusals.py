@@ -34,3 +34,8 @@ class NoRoom(Refusal):
 class NoRecommendation(Refusal):
     def __init__(self):
         Refusal.__init__(self, -33)
+
+
+class NoSuchWeight(Refusal):
+    def __init__(self):
+        Refusal.__init__(self, -33)

@@ -27,7 +27,10 @@ class Store:
         if item >= self.item_count:
             raise NotThere()
 
-    def events_of(self, member):
+    def check_member(self, member):
         if member not in self.members:
             raise NotThere()
+
+    def events_of(self, member):
+        self.check_member(member)
         return self.members[member]

@@ -3,7 +3,9 @@
 Nothing here draws on the package but `play`, so that a fault there isn't repeated here.
 """
 
+from fractions import Fraction
 from itertools import combinations
+from math import factorial
 
 from forgetproof.reasons import answers
 
@@ -14,6 +16,8 @@ CALLS = (
     "check_proof", "absence", "root_without", "status",
 )
 GREATEST = 4294967295
+# The calls that can change what later ones answer.
+CHANGES = ("create", "set_similarity", "add_member", "delete_member", "add_event", "remove_event")
 
 
 def written(calls):
@@ -40,7 +44,9 @@ def apart(answered):
 
 def play(calls):
     """The answers, a list of numbers for each call."""
-    found = apart(answers(written(calls)))
+    handed = written(calls)
+    assert 1 <= len(calls) <= 60 and len(handed) <= 1800, "not a list that is handed in"
+    found = apart(answers(handed))
     assert len(found) == len(calls), found
     return found
 
@@ -50,9 +56,32 @@ def last(calls):
     return play(calls)[-1]
 
 
+def asked(start, questions):
+    """The answers to the questions, none of which changes anything, after the calls of the start."""
+    found = []
+    room = 60 - len(start)
+    for at in range(0, len(questions), room):
+        found += play(start + questions[at:at + room])[len(start):]
+    return found
+
+
+def store(items, similarities, events, member=9):
+    """Calls that make a store with one member, who has these events."""
+    calls = [("create", items), ("add_member", member)]
+    calls += [("set_similarity",) + entry for entry in similarities]
+    return calls + [("add_event", member) + event for event in events]
+
+
+def filled(members):
+    """Calls that make a store of six items with these members, a dict of lists of (item, weight)."""
+    calls = [("create", 6)] + [("add_member", member) for member in members]
+    return calls + [("add_event", member) + event for member in members for event in members[member]]
+
+
 def looks(items, members):
     """Calls that bring to light the whole state of a store with at most these members and items."""
-    calls = [("events", member) for member in members]
+    calls = [("status",), ("root",)]
+    calls += [("events", member) for member in members]
     calls += [("scores", member) for member in members]
     calls += [("set_similarity", one, other, 0) for one, other in combinations(range(items + 1), 2)]
     calls += [("delete_member", member) for member in members]
@@ -70,17 +99,47 @@ def number_hash(numbers):
     return fnv(b"".join(number.to_bytes(8, "little") for number in numbers))
 
 
-def root_by_words(members):
-    """The root, as two halves, of members that are a dict of lists of (item, weight)."""
-    level = []
-    for member in sorted(members):
-        flat = [number for event in members[member] for number in event]
-        level.append(number_hash([1, member, len(members[member])] + flat))
+def two_halves(value):
+    return list(divmod(value, 1 << 32))
+
+
+def leaf_by_words(member, events):
+    return number_hash([1, member, len(events)] + [number for event in events for number in event])
+
+
+def node_by_words(one, other):
+    return (number_hash([2, one[0], other[0]]), one, other)
+
+
+def tree_by_words(members):
+    """The hash tree: nodes (value, one node, other node) down to the leaves (value, member)."""
+    level = [(leaf_by_words(member, members[member]), member) for member in sorted(members)]
     while len(level) > 1:
         pairs = [level[at:at + 2] for at in range(0, len(level), 2)]
-        level = [number_hash([2] + pair) if len(pair) == 2 else pair[0] for pair in pairs]
-    value = level[0] if level else number_hash([0])
-    return list(divmod(value, 1 << 32))
+        level = [node_by_words(*pair) if len(pair) == 2 else pair[0] for pair in pairs]
+    return level[0] if level else (number_hash([0]), None)
+
+
+def root_by_words(members):
+    """The root, as two halves, of members that are a dict of lists of (item, weight)."""
+    return two_halves(tree_by_words(members)[0])
+
+
+def steps_by_words(node, member):
+    """The (side, value) steps from the member's leaf up to the node; None if it isn't below it."""
+    if len(node) == 2:
+        return [] if node[1] == member else None
+    value, one, other = node
+    below = steps_by_words(one, member)
+    if below is not None:
+        return below + [(1, other[0])]
+    below = steps_by_words(other, member)
+    return None if below is None else below + [(0, one[0])]
+
+
+def in_numbers(steps):
+    """Steps number by number, as they are handed in and answered."""
+    return [number for side, value in steps for number in [side] + two_halves(value)]
 
 
 def sets_by_words(count):
@@ -174,15 +233,21 @@ class Words:
             return [-2]
         return [self.items] + [self.score(self.members[member], item) for item in range(self.items)]
 
+    def ranking_by(self, chosen, every):
+        left = {}
+        for item in range(self.items):
+            if self.score(chosen, item) > 0 and all(on != item for on, weight in every):
+                left[item] = self.score(chosen, item)
+        order = []
+        while left:
+            # Among equals max finds the one that was put in first, the smaller number.
+            item = max(left, key=left.get)
+            order.append((item, left.pop(item)))
+        return order
+
     def ranking(self, member, positions):
         chosen = [self.members[member][position] for position in positions]
-        order = []
-        for score in range(7000, 0, -1):
-            for item in range(self.items):
-                if self.score(chosen, item) == score:
-                    if all(on != item for on, weight in self.members[member]):
-                        order.append((item, score))
-        return order
+        return self.ranking_by(chosen, self.members[member])
 
     def firsts(self, member):
         """For each set of positions the first recommendation by them, or None."""
@@ -240,6 +305,101 @@ class Words:
         for chosen in sets_by_words(len(every)):
             if firsts[tuple(chosen)] == firsts[every]:
                 return [len(chosen)] + chosen
+
+    def robust(self, member, count):
+        if self.lacks(member):
+            return [-2]
+        firsts = self.firsts(member)
+        every = tuple(range(len(self.members[member])))
+        if firsts[every] is None:
+            return [-33]
+        kept_enough = [kept for kept in firsts if len(every) - len(kept) <= count]
+        return [1 if all(firsts[kept] == firsts[every] for kept in kept_enough) else 0]
+
+    def shapley(self, member, item):
+        if self.lacks(member, item):
+            return [-2]
+        firsts = self.firsts(member)
+        count = len(self.members[member])
+        answer = [count]
+        for event in range(count):
+            value = Fraction(0)
+            for chosen in firsts:
+                if event not in chosen:
+                    more = int(firsts[tuple(sorted(chosen + (event,)))] == item)
+                    share = factorial(len(chosen)) * factorial(count - len(chosen) - 1)
+                    value += Fraction(share, factorial(count)) * (more - int(firsts[chosen] == item))
+            answer += [value.numerator, value.denominator]
+        return answer
+
+    def influence(self, member, position):
+        if self.lacks(member) or position >= len(self.members[member]):
+            return [-2]
+        every = range(len(self.members[member]))
+        old = [item for item, score in self.ranking(member, every)]
+        new = [item for item, score in self.ranking(member, [at for at in every if at != position])]
+        moved = [item for item in old if item not in new or new.index(item) != old.index(item)]
+        return [old[0] + 1 if old else 0, new[0] + 1 if new else 0, len(moved)]
+
+    def needed_weight(self, member, on, goal):
+        if self.lacks(member, on, goal):
+            return [-2]
+        for weight in range(1, 101):
+            more = self.members[member] + [(on, weight)]
+            if [item for item, score in self.ranking_by(more, more)][:1] == [goal]:
+                return [weight]
+        return [-33]
+
+    def what_if(self, member, positions):
+        if self.lacks(member):
+            return [-2]
+        if positions not in sets_by_words(len(self.members[member])):
+            return [-22]
+        order = self.ranking(member, positions)
+        return [len(order)] + [number for pair in order for number in pair]
+
+    def root(self):
+        return [len(self.members)] + root_by_words(self.members)
+
+    def leaf(self, member):
+        if self.lacks(member):
+            return [-2]
+        value = leaf_by_words(member, self.members[member])
+        return [sorted(self.members).index(member)] + two_halves(value)
+
+    def proof(self, member):
+        if self.lacks(member):
+            return [-2]
+        steps = steps_by_words(tree_by_words(self.members), member)
+        return [len(steps)] + in_numbers(steps)
+
+    def check_proof(self, leaf_high, leaf_low, root_high, root_low, steps):
+        groups = [steps[at:at + 3] for at in range(0, len(steps), 3)]
+        if any(len(group) != 3 or group[0] not in (0, 1) for group in groups):
+            return [-22]
+        value = leaf_high * (1 << 32) + leaf_low
+        for side, high, low in groups:
+            partner = high * (1 << 32) + low
+            value = number_hash([2, value, partner] if side else [2, partner, value])
+        return [int(two_halves(value) == [root_high, root_low])]
+
+    def absence(self, member):
+        if member in self.members:
+            return [-17]
+        order = sorted(list(self.members) + [member])
+        place = order.index(member)
+        below = order[place - 1] + 1 if place > 0 else 0
+        above = order[place + 1] + 1 if place + 1 < len(order) else 0
+        return [0, below, above]
+
+    def root_without(self, member):
+        if self.lacks(member):
+            return [-2]
+        others = {other: self.members[other] for other in self.members if other != member}
+        return [len(others)] + root_by_words(others)
+
+    def status(self):
+        return [self.items, len(self.members), sum(map(len, self.members.values()))]
 
 
 def play_by_words(calls):

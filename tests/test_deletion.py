@@ -2,7 +2,7 @@
 
 import unittest
 
-from helper import GREATEST, fnv, last, number_hash, play, root_by_words
+from helper import GREATEST, filled, fnv, last, number_hash, play, root_by_words
 
 EVENTS = {
     500: [],
@@ -12,11 +12,6 @@ EVENTS = {
     77: [(5, 4), (4, 5), (3, 6)],
     76: [(1, 1)],
 }
-
-
-def filled(members):
-    calls = [("create", 6)] + [("add_member", member) for member in members]
-    return calls + [("add_event", member) + event for member in members for event in members[member]]
 
 
 class TheWordsThemselves(unittest.TestCase):

@@ -21,10 +21,30 @@ EXAMPLE = [
     (("margin", 7), [130]),
     (("removal_set", 7), [1, 0, 4]),
     (("sufficient_set", 7), [1, 0]),
+    (("robust", 7, 0), [1]),
+    (("robust", 7, 1), [0]),
+    (("shapley", 7, 2), [2, 1, 1, 0, 1]),
+    (("shapley", 7, 3), [2, -1, 2, 1, 2]),
+    (("influence", 7, 0), [3, 4, 2]),
+    (("needed_weight", 7, 1, 3), [5]),
+    (("what_if", 7, [1]), [2, 3, 60, 2, 30]),
+    (("proof", 7), [0]),
+    (("absence", 5), [0, 0, 8]),
+    (("absence", 7), [-17]),
     (("remove_event", 7, 1), [1]),
     (("events", 7), [1, 0, 2]),
+    (("check_proof", 0, 1, 0, 1, []), [1]),
+    (("check_proof", 0, 1, 0, 2, []), [0]),
+    (("check_proof", 0, 1, 0, 2, [2, 0, 0]), [-22]),
     (("set_similarity", 1, 1, 5), [-22]),
     (("add_event", 7, 9, 1), [-2]),
+    (("status",), [4, 1, 1]),
+]
+
+# With these every call is there.
+EVERY = [call for call, result in EXAMPLE] + [
+    ("root",), ("leaf", 7), ("root_without", 7), ("check_proof", 1, 2, 3, 4, [0, 1, 2] * 8),
+    ("what_if", 7, [0] * 24), ("delete_member", 7),
 ]
 
 # Every call, with the least numbers that can be handed in with it and with the greatest.
@@ -64,7 +84,7 @@ class TheLists(unittest.TestCase):
         self.assertEqual(answers([0, 0]), [1, -22])
 
     def test_only_plain_whole_numbers_are_given_back(self):
-        answered = answers(written([call for call, result in EXAMPLE]))
+        answered = answers(written(EVERY))
         self.assertIs(type(answered), list)
         for number in answered:
             self.assertIs(type(number), int)
@@ -72,11 +92,14 @@ class TheLists(unittest.TestCase):
     def test_sixty_calls(self):
         calls = [("create", 6), ("add_member", 1)] + [("recommend", 1, 9)] * 58
         self.assertEqual(play(calls), [[0], [1]] + [[0]] * 58)
+        calls = [("create", 6)] + [("check_proof", 0, 1, 0, 1, [1, 0, 0] * 8)] * 58 + [("status",)]
+        self.assertEqual(play(calls), [[0]] * 59 + [[6, 0, 0]])
         calls = [("create", 6)] * 59 + [("events", 1)]
         self.assertEqual(play(calls), [[0]] * 59 + [[-2]])
 
     def test_the_list_handed_in_is_never_changed(self):
-        plain = written([call for call, result in EXAMPLE] + [("delete_member", 7)])
+        self.assertEqual({call[0] for call in EVERY}, set(CALLS))
+        plain = written(EVERY)
         handed = Untouched(plain)
         answers(handed)
         self.assertEqual(list(handed), plain)
@@ -90,6 +113,13 @@ class TheLists(unittest.TestCase):
         self.assertEqual(play([("create", 3), ("add_member", 5)]), [[0], [1]])
         self.assertEqual(play([("events", 5)]), [[-11]])
         self.assertEqual(play([("create", 3), ("events", 5)]), [[0], [-2]])
+
+    def test_after_a_run_of_every_call_none_is_there(self):
+        first = play(EVERY)
+        for name in CALLS[1:]:
+            self.assertEqual(play([filled(name, 7, [])]), [[-11]])
+        self.assertEqual(play(EVERY), first)
+        self.assertEqual(play([("create", 2), ("status",), ("absence", 7)]), [[0], [2, 0, 0], [0, 0, 0]])
 
 
 class WithoutAStore(unittest.TestCase):
@@ -113,8 +143,8 @@ class WithoutAStore(unittest.TestCase):
 
     def test_a_refused_create_makes_no_store(self):
         for items in (0, 7, GREATEST):
-            calls = [("create", items), ("add_member", 1)]
-            self.assertEqual(play(calls), [[-22], [-11]])
+            calls = [("create", items)] + [filled(name, 1, [2]) for name in CALLS[1:]]
+            self.assertEqual(play(calls), [[-22]] + [[-11]] * 24)
 
     def test_calls_before_the_first_create_change_nothing(self):
         calls = [("add_member", 1), ("set_similarity", 0, 1, 5), ("create", 2), ("add_member", 1),

@@ -2,14 +2,7 @@
 
 import unittest
 
-from helper import GREATEST, last, play
-
-
-def store(items, similarities, events):
-    """A store with the member 9."""
-    calls = [("create", items), ("add_member", 9)]
-    calls += [("set_similarity",) + entry for entry in similarities]
-    return calls + [("add_event", 9) + event for event in events]
+from helper import GREATEST, last, play, store
 
 
 SIMILAR = [(0, 1, 50), (0, 2, 80), (1, 2, 30), (1, 3, 60), (3, 2, 10)]

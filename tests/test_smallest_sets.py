@@ -3,17 +3,11 @@
 import unittest
 from random import Random
 
-from helper import GREATEST, last, play, play_by_words, sets_by_words
+from helper import GREATEST, last, play, play_by_words, sets_by_words, store
 
 
 BALANCED = [(0, 4, 60), (1, 4, 60), (2, 4, 60), (0, 5, 100), (1, 5, 70),
             (0, 3, 21), (1, 3, 21), (2, 3, 100)]
-
-
-def store(items, similarities, events):
-    calls = [("create", items), ("add_member", 9)]
-    calls += [("set_similarity",) + entry for entry in similarities]
-    return calls + [("add_event", 9) + event for event in events]
 
 
 def both(calls):
